@@ -3,7 +3,7 @@
 from boxturns.pairs import NUMBER
 from boxturns.reading import GRANTED, NoProgram, read_program
 from boxturns.steps import take_steps
-from boxturns.telling import told
+from boxturns.telling import told_letters, told_process, told_values, told_word
 from boxturns.world import TooManyProcesses, World
 
 FIRST_PROGRAM = ((0, 0),)
@@ -60,9 +60,7 @@ class Line:
             return [NO_LETTER]
         letter = self.world.letters.pop(place)
         self.world.arrive(letter)
-        if letter[2] is None:
-            return [0]
-        return [1] + told(self.world, letter[2])
+        return told_word(self.world, letter[2])
 
     def ticks(self, n):
         if n > MOST_TICKS:
@@ -86,6 +84,27 @@ class Line:
             return [OVERFULL]
         self.world = trial
         return answer
+
+    def tell_process(self, i):
+        if not self.world.has_process(i):
+            return [NO_PROCESS]
+        return told_process(self.world, self.world.process_of(i))
+
+    def tell_box(self, i):
+        if not self.world.has_process(i):
+            return [NO_PROCESS]
+        return told_values(self.world, self.world.process_of(i).box)
+
+    def tell_said(self, i):
+        if not self.world.has_process(i):
+            return [NO_PROCESS]
+        return told_values(self.world, self.world.process_of(i).said)
+
+    def tell_air(self):
+        return told_letters(self.world)
+
+    def tell_counts(self):
+        return [self.world.time, len(self.world.processes), len(self.world.letters)]
 
 
 def first_letter(letters, sender, receiver):

@@ -175,8 +175,59 @@ def turns(n):
     return [5, n]
 
 
+def process(i=1):
+    return [6, i]
+
+
+def box(i=1):
+    return [7, i]
+
+
+def said(i=1):
+    return [8, i]
+
+
+def air():
+    return [9]
+
+
+def counts():
+    return [10]
+
+
+# Answers, as they are told.
+
+GOES_ON = [0]
+AWAITS = [1]
+
+
+def ends_with(value):
+    return [2] + value
+
+
+def ends_by(value):
+    return [3] + value
+
+
+def state(last, todo=0, words=0, children=0, watched=0, who=()):
+    return [len(who)] + list(who) + [todo, words, children, watched] + last
+
+
+def row(*told):
+    """Values or letters, with how many they are ahead of them."""
+    return [len(told)] + [n for one in told for n in one]
+
+
+def letter(sender, receiver, word):
+    """Sender and receiver are told as tuples; the word is a told value, or None for a watch."""
+    ends = [n for who in (sender, receiver) for n in (len(who),) + who]
+    return ends + ([0] if word is None else [1] + word)
+
+
 def ask(*calls):
     """What each of the calls answers, as a list each."""
+    if not 1 <= len(calls) <= 40:
+        raise AssertionError("a line has 1 to 40 calls, not %d" % len(calls))
     answered = answers([n for told in calls for n in told])
     taken = []
     place = 0
@@ -187,6 +238,56 @@ def ask(*calls):
     if place != len(answered) or len(taken) != len(calls):
         raise AssertionError("the counts of the answers don't fit: %r" % (answered,))
     return taken
+
+
+def name_at(told, at):
+    end = at + 1 + told[at]
+    return tuple(told[at + 1:end]), end
+
+
+def behind_value(told, at):
+    """Where a value that is told from there on has its end."""
+    ahead = 1
+    while ahead:
+        ahead -= 1
+        if told[at] == 2:
+            ahead += 2
+            at += 1
+        elif told[at] == 1:
+            at += 2 + told[at + 1]
+        else:
+            at += 2
+    return at
+
+
+def letters_of(told):
+    """What air answers, as letters: from whom, to whom, the told word or None."""
+    letters = []
+    at = 1
+    while at < len(told):
+        sender, at = name_at(told, at)
+        receiver, at = name_at(told, at)
+        end = behind_value(told, at + 1) if told[at] == 1 else at + 1
+        letters.append((sender, receiver, told[at + 1:end] if told[at] == 1 else None))
+        at = end
+    if len(letters) != told[0]:
+        raise AssertionError("there are not so many letters as told: %r" % (told,))
+    return letters
+
+
+def questions(count):
+    """All that can be asked where there are so many processes."""
+    return [counts(), air()] + [kind(i) for i in range(1, count + 1) for kind in (process, box, said)]
+
+
+def seen_behind(*calls):
+    """All that can be asked behind these calls, with the answers: by several lines, as each has 40 calls at most."""
+    wanted = questions(ask(*calls, counts())[-1][1])
+    room = 40 - len(calls)
+    seen = []
+    for at in range(0, len(wanted), room):
+        seen.extend(ask(*calls, *wanted[at:at + room])[len(calls):])
+    return list(zip(wanted, seen))
 
 
 def value_of(written, n=0, functions=()):

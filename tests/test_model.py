@@ -7,11 +7,13 @@ nested tuples. What is refused it takes back by doing all the earlier calls agai
 import random
 import unittest
 
-from tests.helper import (ANY, KEEP, ME, ask, begin, both, call, catch, deliver, is_num, is_var, let, num, op, program,
-                          run, say, send, start, take, take_till, throw, ticks, turns, two, var, watch, when)
+from tests.helper import (ANY, KEEP, ME, air, ask, begin, both, box, call, catch, counts, deliver, is_num, is_var, let,
+                          letters_of, num, op, process, program, questions, run, said, say, seen_behind, send,
+                          start, take, take_till, throw, ticks, turns, two, var, watch, when)
 
 STEP = "a step is ahead"
 STUCK = "nothing can be done"
+MOST_NUMBERS = 5000
 
 
 class Raised(Exception):
@@ -57,8 +59,11 @@ class Actor:
         self.world = world
         self.name = name
         self.box = []
+        self.said = []
         self.children = 0
         self.watchers = []
+        self.behind = 0
+        self.waits = False
         self.ended = None
         self.goes = self.live(body, value)
         next(self.goes)
@@ -78,14 +83,26 @@ class Actor:
             self.ended = ("two", ("number", 1), raised.value)
         for watcher in self.watchers:
             self.world.post(self.name, watcher, ("two", ("name", self.name), self.ended))
+        self.box, self.watchers = [], []
+
+    def tried(self, node, variables):
+        """Something worked out while something is to be done behind it, which goes by a step however it comes."""
+        self.behind += 1
+        try:
+            value = yield from self.work(node, variables)
+            came = True
+        except Raised as raised:
+            value = raised.value
+            came = False
+        yield STEP
+        self.behind -= 1
+        return came, value
 
     def part(self, node, variables):
-        """Something worked out while something is to be done behind it, which goes by a step if it's raised."""
-        try:
-            return (yield from self.work(node, variables))
-        except Raised:
-            yield STEP
-            raise
+        came, value = yield from self.tried(node, variables)
+        if not came:
+            raise Raised(value)
+        return value
 
     def work(self, node, variables):
         """Goes round for what comes last in something, so that a loop of the language nests no generators."""
@@ -102,19 +119,16 @@ class Actor:
             if node[0] in (7, 8):
                 node, variables = yield from self.wait(node, variables)
             elif node[0] == 14:
-                came, value = yield from self.guard(node, variables)
+                came, value = yield from self.tried(node[1], variables)
                 if came:
                     return value
                 node, variables = node[2], [value] + variables
             elif node[0] in (2, 3, 9):
                 first = yield from self.part(node[-2], variables)
-                yield STEP
                 second = yield from self.part(node[-1], variables)
-                yield STEP
                 return self.combine(node, first, second)
             else:
                 value = yield from self.part(node[1] if node[0] in (4, 5) else node[-1], variables)
-                yield STEP
                 if node[0] in (6, 10) and node[1] >= len(self.world.functions):
                     raise Raised(("number", 101))
                 if node[0] == 4:
@@ -139,6 +153,8 @@ class Actor:
             if value[0] != "name":
                 raise Raised(("number", 101))
             self.world.post(self.name, value[1], None)
+        if node[0] == 15:
+            self.said.append(value)
         return value
 
     def combine(self, node, x, y):
@@ -161,20 +177,11 @@ class Actor:
         low = exact & 0xFFFFFFFF
         return ("number", low - (1 << 32) if low >> 31 else low)
 
-    def guard(self, node, variables):
-        try:
-            value = yield from self.work(node[1], variables)
-            came = True
-        except Raised as raised:
-            value = raised.value
-            came = False
-        yield STEP
-        return came, value
-
     def wait(self, node, variables):
         since = self.world.time
         choices = [(node[1], node[2]), (node[3], node[4])] if node[0] == 7 else [(node[2], node[3])]
         answer = STEP
+        self.waits = True
         while True:
             yield answer
             for word in list(self.box):
@@ -183,10 +190,19 @@ class Actor:
                     if kept is not None:
                         # Words that are alike can't be told apart: the oldest of them is taken out.
                         self.box.remove(word)
+                        self.waits = False
                         return rest, kept
             if node[0] == 8 and self.world.time >= since + node[1]:
+                self.waits = False
                 return node[4], variables
             answer = STUCK
+
+    def told(self):
+        last = [1 if self.waits else 0]
+        if self.ended:
+            last = [2 + self.ended[1][1]] + tell(self.ended[2])
+        sizes = [self.behind, len(self.box), self.children, len(self.watchers)]
+        return [len(self.name)] + list(self.name) + sizes + last
 
 
 class Model:
@@ -203,7 +219,7 @@ class Model:
     def arrive(self, letter):
         receiver = [actor for actor in self.actors if actor.name == letter[1]][0]
         if letter[2] is not None:
-            receiver.box.append(letter[2])
+            receiver.box.extend([] if receiver.ended else [letter[2]])
         elif receiver.ended:
             self.post(letter[1], letter[0], ("two", ("name", letter[1]), receiver.ended))
         else:
@@ -212,6 +228,8 @@ class Model:
     def answer(self, call):
         if call[0] == 0:
             return self.program(call[2:])
+        if call[0] > 5:
+            return self.look(*call)
         answer = (self.begin, self.run, self.deliver, self.ticks, self.turns)[call[0] - 1](*call[1:])
         if answer[0] >= 0:
             self.done.append(call)
@@ -243,6 +261,19 @@ class Model:
             return [-1]
         self.actors.append(Actor(self, (), self.functions[f], ("number", n)))
         return [1]
+
+    def look(self, kind, i=1):
+        if kind == 10:
+            return [self.time, len(self.actors), len(self.letters)]
+        if kind == 9:
+            return [len(self.letters)] + sum([tell_letter(letter) for letter in self.letters], [])
+        if i == 0 or i > len(self.actors):
+            return [-3]
+        actor = self.actors[i - 1]
+        if kind == 6:
+            return actor.told()
+        values = actor.box if kind == 7 else actor.said
+        return [len(values)] + sum([tell(value) for value in values], [])
 
     def full(self):
         return len(self.actors) > 20 or len(self.letters) > 200
@@ -289,12 +320,30 @@ class Model:
         return [-6] if self.full() else [len(self.actors), len(self.letters)]
 
 
+class TooLong(Exception):
+    """A value made of itself, over and over, is more numbers than a line may answer."""
+
+
 def tell(value):
-    if value[0] == "number":
-        return [0, value[1]]
-    if value[0] == "name":
-        return [1, len(value[1])] + list(value[1])
-    return [2] + tell(value[1]) + tell(value[2])
+    told = []
+    ahead = [value]
+    while ahead:
+        part = ahead.pop()
+        if part[0] == "number":
+            told += [0, part[1]]
+        elif part[0] == "name":
+            told += [1, len(part[1])] + list(part[1])
+        else:
+            told.append(2)
+            ahead += [part[2], part[1]]
+        if len(told) > MOST_NUMBERS:
+            raise TooLong()
+    return told
+
+
+def tell_letter(letter):
+    ends = [n for who in letter[:2] for n in (len(who),) + who]
+    return ends + ([0] if letter[2] is None else [1] + tell(letter[2]))
 
 
 class Writer:
@@ -398,64 +447,128 @@ def some_call(chance, model):
                           run(count + 1, 1)])
 
 
-def played(seed):
-    """A line of calls, and what the model answers to each: as many calls as it has the room to nest for."""
-    chance = random.Random(seed)
-    model = Model()
-    calls = [program(*Writer(chance).program()), begin(0, chance.randint(0, 3))]
-    told = [model.answer(one) for one in calls]
-    while len(calls) < 40 and sum(len(answer) for answer in told) < 5000:
-        one = some_call(chance, model)
+def some_question(chance, model):
+    i = chance.randint(0, len(model.actors) + 1) if chance.random() < 0.1 else chance.randint(1, len(model.actors) or 1)
+    return chance.choice([process(i), process(i), process(i), box(i), said(i), air(), counts()])
+
+
+class Line:
+    """Calls, and what the model answers to each: as many calls as it has the room to nest for."""
+
+    def __init__(self, seed, most, asks):
+        self.chance = random.Random(seed)
+        self.model = Model()
+        self.calls = []
+        self.told = []
+        self.put(program(*Writer(self.chance).program()))
+        self.put(begin(0, self.chance.randint(0, 3)))
+        while len(self.calls) < most and sum(len(answer) for answer in self.told) < MOST_NUMBERS:
+            try:
+                self.put((some_question if self.chance.random() < asks else some_call)(self.chance, self.model))
+            except (RecursionError, TooLong):
+                self.model.again()
+                break
+
+    def seen(self):
+        """All that can be asked behind the line, with the answers; None if that's too long."""
         try:
-            told.append(model.answer(one))
-        except RecursionError:
-            break
-        calls.append(one)
-    return calls, told
+            return [(one, self.model.answer(one)) for one in questions(len(self.model.actors))]
+        except TooLong:
+            return None
+
+    def put(self, one):
+        self.told.append(self.model.answer(one))
+        self.calls.append(one)
 
 
 class Same(unittest.TestCase):
     @classmethod
     def setUpClass(cls):
-        cls.lines = [played(seed) for seed in range(LINES)]
+        cls.lines = [Line(seed, 40, 0.4) for seed in range(LINES)]
 
     def test_the_model_answers_the_same(self):
-        for seed, (calls, told) in enumerate(self.lines):
-            answered = ask(*calls)
-            for place, one in enumerate(calls):
-                self.assertEqual(answered[place], told[place], "line %d, call %d: %r" % (seed, place, one))
+        for seed, line in enumerate(self.lines):
+            answered = ask(*line.calls)
+            for place, one in enumerate(line.calls):
+                self.assertEqual(answered[place], line.told[place], "line %d, call %d: %r" % (seed, place, one))
 
     def test_the_lines_are_worth_asking(self):
         seen = {}
-        for calls, told in self.lines:
-            for one, answer in zip(calls, told):
+        for line in self.lines:
+            for one, answer in zip(line.calls, line.told):
                 kind = (one[0], min(answer[0], 0))
                 seen[kind] = seen.get(kind, 0) + 1
-        for kind in ((2, 0), (2, -3), (2, -6), (3, 0), (3, -5), (5, 0), (5, -6)):
+        for kind in ((2, 0), (2, -3), (2, -6), (3, 0), (3, -5), (5, 0), (5, -6), (6, 0), (6, -3), (7, 0), (7, -3),
+                     (8, 0), (8, -3), (9, 0), (10, 0)):
             self.assertGreater(seen.get(kind, 0), 20, kind)
 
-    def test_what_is_refused_may_as_well_not_be_asked(self):
-        for calls, told in self.lines:
-            kept = [place for place in range(len(calls)) if told[place][0] >= 0]
-            self.assertEqual(ask(*[calls[place] for place in kept]), [told[place] for place in kept])
+    def test_what_is_refused_or_only_looks_may_as_well_not_be_asked(self):
+        for line in self.lines:
+            kept = [place for place, answer in enumerate(line.told) if answer[0] >= 0]
+            self.assertEqual(ask(*[line.calls[place] for place in kept]), [line.told[place] for place in kept])
+            done = [place for place in kept if line.calls[place][0] < 6]
+            self.assertEqual(ask(*[line.calls[place] for place in done]), [line.told[place] for place in done])
 
     def test_steps_in_pieces_are_the_same(self):
-        for calls, told in self.lines:
+        for line in self.lines:
             pieces = []
-            for one, answer in zip(calls, told):
+            for one, answer in zip(line.calls, line.told):
                 half = one[2] // 2 if is_steps(one, answer) else 0
-                pieces.extend([run(one[1], half), run(one[1], one[2] - half)] if is_steps(one, answer) else [one])
-            answered = iter(ask(*pieces))
-            for one, answer in zip(calls, told):
+                pieces.append([run(one[1], half), run(one[1], one[2] - half)] if is_steps(one, answer) else [one])
+            while sum(len(piece) for piece in pieces) > 40:
+                pieces.pop()
+            answered = iter(ask(*[one for piece in pieces for one in piece]))
+            for piece, answer in zip(pieces, line.told):
                 first = next(answered)
-                self.assertEqual([first[0] + next(answered)[0]] if is_steps(one, answer) else first, answer)
+                self.assertEqual([first[0] + next(answered)[0]] if len(piece) == 2 else first, answer)
 
 
 def is_steps(one, answer):
     return one[0] == 2 and answer[0] > 0
 
 
+class AllSeen(unittest.TestCase):
+    """Behind the last call of each line all is looked at, of each process."""
+
+    @classmethod
+    def setUpClass(cls):
+        lines = [Line(seed, 24, 0) for seed in range(LINES, LINES + LOOKED_AT)]
+        cls.lines = [line for line in lines if line.seen() is not None]
+
+    def test_the_model_looks_the_same(self):
+        self.assertGreater(len(self.lines), LOOKED_AT * 9 // 10)
+        for line in self.lines:
+            self.assertEqual(seen_behind(*line.calls), line.seen(), line.calls)
+
+    def test_whose_turn_it_was_first_makes_no_difference(self):
+        swapped = 0
+        for line in self.lines:
+            for place in range(2, len(line.calls) - 1):
+                if self.are_free(line, place):
+                    calls = line.calls[:place + 2]
+                    turned = calls[:place] + [calls[place + 1], calls[place]]
+                    self.assertEqual(apart_from_order(seen_behind(*turned)), apart_from_order(seen_behind(*calls)))
+                    swapped += 1
+        self.assertGreater(swapped, 100)
+
+    def are_free(self, line, place):
+        """Two steps by different processes that there were before: one at most starts others, so all keep their
+        places."""
+        both_run = [one for one in (place, place + 1) if is_steps(line.calls[one], line.told[one])]
+        if len(both_run) < 2 or line.calls[place][1] == line.calls[place + 1][1]:
+            return False
+        there = [ask(*line.calls[:end], counts())[-1][1] for end in (place, place + 1, place + 2)]
+        return line.calls[place + 1][1] <= there[0] and there[1] in (there[0], there[2])
+
+
+def apart_from_order(seen):
+    """Only from one to another is the order of letters settled: they are put one pair behind another."""
+    return [(one, sorted(letters_of(answer), key=lambda letter: letter[:2]) if one == air() else answer)
+            for one, answer in seen]
+
+
 LINES = 500
+LOOKED_AT = 200
 
 
 if __name__ == "__main__":

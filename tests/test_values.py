@@ -2,9 +2,10 @@
 
 import unittest
 
-from tests.helper import (ANY, KEEP, ME, WRONG, Case, add, alike, ask, begin, below, both, call, catch, deliver, is_num,
-                          is_var, less, let, name, num, number, op, pair, program, run, send, start, take, take_till,
-                          throw, ticks, turns, two, var, watch, when)
+from tests.helper import (ANY, KEEP, ME, WRONG, Case, add, air, alike, ask, begin, below, both, box, call, catch,
+                          deliver, ends_by, ends_with, is_num, is_var, less, let, letter, minus, name, num, number, op,
+                          pair, process, program, row, run, said, say, send, start, state, take, take_till, throw,
+                          ticks, turns, two, var, watch, when)
 
 LEVELS = 15
 ROUNDS_OF_LEVELS = 120
@@ -122,26 +123,55 @@ class Grown(Case):
 
 
 class Told(Case):
-    def told(self, grow, rounds):
-        steps = [run()] * 34
-        return ask(*([program(send(ME, grown(rounds, num(7))), grow), begin()] + steps + [deliver()]))[-1]
+    def seen(self, value, function, expected):
+        """The value is said, sent to itself, at an end, and raised by the first process."""
+        sends = let(say(value), let(send(ME, var(0)), take(is_num(999), num(0), is_num(998), num(0))))
+        told = ask(program(sends, function), begin(), *[run()] * 34, air(), said(), deliver(), box())
+        self.assertEqual(told[-4:], [row(letter((), (), expected)), row(expected), [1] + expected, row(expected)])
+        told = ask(program(value, function), begin(), *[run()] * 34, process())
+        self.assertEqual(told[-1], state(ends_with(expected)))
+        told = ask(program(throw(value), function), begin(), *[run()] * 34, process())
+        self.assertEqual(told[-1], state(ends_by(expected)))
 
     def test_nested_some_thousand_deep(self):
         levels = LEVELS * ROUNDS_OF_LEVELS
-        self.assertEqual(self.told(RIGHT, ROUNDS_OF_LEVELS), [1] + [2, 0, 1] * levels + [0, 7])
-        self.assertEqual(self.told(LEFT, ROUNDS_OF_LEVELS), [1] + [2] * levels + [0, 7] + [0, 1] * levels)
+        value = grown(ROUNDS_OF_LEVELS, num(7))
+        self.seen(value, RIGHT, [2, 0, 1] * levels + number(7))
+        self.seen(value, LEFT, [2] * levels + number(7) + number(1) * levels)
 
     def test_made_of_the_same_twice(self):
-        value = number(7)
-        for level in range(DOUBLINGS):
-            value = pair(value, value)
-        self.assertEqual(self.told(DOUBLE, 1), [1] + value)
+        self.seen(grown(1, num(7)), DOUBLE, doubled(number(7), DOUBLINGS))
+
+    def test_some_hundred_thousand_numbers(self):
+        function = var(0)
+        for level in range(15):
+            function = let(two(var(0), var(0)), function)
+        expected = doubled(pair(name(), number(-1)), 15)
+        self.assertEqual(len(expected), 196607)
+        self.seen(call(1, num(0)), let(two(ME, minus(1)), function), expected)
+
+    def test_several_of_the_same(self):
+        value = doubled(number(7), DOUBLINGS)
+        says = let(grown(1, num(7)), let(say(var(0)), let(say(two(var(1), var(1))), say(num(3)))))
+        told = ask(program(says, DOUBLE), begin(), run(), said())
+        self.assertEqual(told[-1], row(value, pair(value, value), number(3)))
+
+    def test_the_end_of_one_that_is_watched(self):
+        value = doubled(number(7), DOUBLINGS)
+        self.assertEqual(ask(program(watch(start(2, num(0))), DOUBLE, grown(1, num(7))), begin(), run(), run(2),
+                             turns(1), air())[-1],
+                         row(letter((1,), (), pair(name(1), pair(number(0), value)))))
 
     def test_small_ones_of_the_same_twice(self):
         written = let(two(ME, num(1)), let(two(var(0), var(0)), send(ME, two(var(0), var(0)))))
-        small = pair(name(), number(1))
         told = ask(program(written), begin(), run(), deliver())
-        self.assertEqual(told[-1], [1] + pair(pair(small, small), pair(small, small)))
+        self.assertEqual(told[-1], [1] + doubled(pair(name(), number(1)), 2))
+
+
+def doubled(value, times):
+    for level in range(times):
+        value = pair(value, value)
+    return value
 
 
 if __name__ == "__main__":
